@@ -1,0 +1,1 @@
+"""Stretchkeep: which lists to keep for told questions."""
