@@ -74,9 +74,9 @@ class HandedIn(unittest.TestCase):
 
     def test_truths_are_true_or_false_themselves(self):
         for thing in anything() + [TABLE, QUESTION, "cab", "b"]:
-            self.assertIn(type(is_table(thing)), (bool,))
-            self.assertIn(type(is_list("abc", thing)), (bool,))
-            self.assertIn(type(is_question("abc", thing)), (bool,))
+            self.assertIs(type(is_table(thing)), bool)
+            self.assertIs(type(is_list("abc", thing)), bool)
+            self.assertIs(type(is_question("abc", thing)), bool)
         for one in ("a", "ab", "ba", "c"):
             for question in (QUESTION, ((), None), ((("c", 1),), None), ((), ("b", 1, 2))):
                 self.assertIs(type(serves(one, question)), bool)

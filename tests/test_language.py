@@ -1,6 +1,7 @@
 """Those rules of LANGUAGE.md that are seen at a glance, for each file of the package."""
 
 import ast
+import builtins
 import os
 import re
 import unittest
@@ -54,17 +55,18 @@ class Language(unittest.TestCase):
 
     def test_names(self):
         for name, text in files().items():
-            tree = ast.parse(text)
-            bound = [node.name for node in ast.walk(tree) if isinstance(node, (ast.FunctionDef, ast.ClassDef))]
-            bound += [node.id for node in ast.walk(tree) if isinstance(node, ast.Name) and not isinstance(node.ctx, ast.Load)]
-            bound += [node.arg for node in ast.walk(tree) if isinstance(node, ast.arg)]
+            nodes = list(ast.walk(ast.parse(text)))
+            names = [node for node in nodes if isinstance(node, ast.Name)]
+            bound = [node.name for node in nodes if isinstance(node, (ast.FunctionDef, ast.ClassDef))]
+            bound += [node.id for node in names if not isinstance(node.ctx, ast.Load)]
+            bound += [node.arg for node in nodes if isinstance(node, ast.arg)]
             for one in bound:
                 self.assertFalse(one.startswith("_") and one != "__init__", (name, one))
-                self.assertNotIn(one, dir(__builtins__) if not isinstance(__builtins__, dict) else __builtins__)
-            known = bound + [alias.name for node in ast.walk(tree) if isinstance(node, ast.ImportFrom) for alias in node.names]
-            for node in ast.walk(tree):
-                if isinstance(node, ast.Name) and isinstance(node.ctx, ast.Load):
-                    self.assertIn(node.id, known + BUILTINS, name)
+                self.assertNotIn(one, dir(builtins), name)
+            imports = [node for node in nodes if isinstance(node, ast.ImportFrom)]
+            known = bound + [alias.name for node in imports for alias in node.names] + BUILTINS
+            for node in names:
+                self.assertIn(node.id, known, name)
 
 
 if __name__ == "__main__":

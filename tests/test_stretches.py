@@ -6,6 +6,7 @@ import unittest
 from stretchkeep.questions import answer
 from stretchkeep.stretches import read, serves, stretch, used
 from stretchkeep.tables import sorted_by
+from tests.things import lists_of
 
 #        sorted by "ab": 4 (1,1) 1 (1,2) 3 (1,2) 2 (3,0) 0 (3,1) 5 (7,4)
 TABLE = ("abc", ((3, 1, 2), (1, 2, 2), (3, 0, 2), (1, 2, 2), (1, 1, 9), (7, 4, 0)))
@@ -18,13 +19,6 @@ SMALL_TABLES = (
     ("abc", ((2, 2, 2), (2, 2, 0), (0, 2, 2), (2, 0, 2), (0, 0, 0), (2, 0, 0), (0, 2, 0), (0, 0, 2))),
     ("abc", tuple(itertools.product((1, 3), (1, 2), (0, 3)))[::-1]),
 )
-
-
-def lists_of(columns):
-    found = []
-    for many in range(1, len(columns) + 1):
-        found.extend("".join(letters) for letters in itertools.permutations(columns, many))
-    return found
 
 
 def questions_of(columns):

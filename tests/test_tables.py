@@ -4,16 +4,9 @@ import itertools
 import unittest
 
 from stretchkeep.tables import is_list, is_table, sorted_by
-from tests.things import anything, nested
+from tests.things import anything, lists_of, nested
 
 TABLE = ("abc", ((3, 1, 2), (1, 2, 2), (3, 0, 2), (1, 2, 2), (1, 1, 9)))
-
-
-def all_lists(columns):
-    found = []
-    for many in range(1, len(columns) + 1):
-        found.extend("".join(letters) for letters in itertools.permutations(columns, many))
-    return found
 
 
 class IsTable(unittest.TestCase):
@@ -64,7 +57,8 @@ class IsTable(unittest.TestCase):
         wrong += [(), (1,), [1], [], nested(tuple, 96, 1), nested(list, 96, 1)]
         for number in wrong:
             self.none_is([("a", ((number,),)), ("a", ((1,), (number,)))])
-            self.none_is([("abc", ((1, 2, number),)), ("abc", ((number, 2, 3),)), ("abc", ((1, 2, 3), (1, number, 3)))])
+            self.none_is([("abc", ((1, 2, number),)), ("abc", ((number, 2, 3),))])
+            self.none_is([("abc", ((1, 2, 3), (1, number, 3)))])
 
     def test_wrong_parts(self):
         self.none_is([("a",), ("a", (), ()), ("a", ((1,),), None), ((), "a"), (((1,),), "a"), ("a", (), "")])
@@ -74,18 +68,19 @@ class IsTable(unittest.TestCase):
         self.none_is(anything())
 
     def test_a_table_within_others_is_none(self):
-        self.none_is([nested(tuple, 1, TABLE), nested(list, 1, TABLE), (TABLE, TABLE), ("a", (TABLE,)), nested(list, 90, TABLE)])
+        self.none_is([nested(tuple, 1, TABLE), nested(list, 1, TABLE), nested(list, 90, TABLE)])
+        self.none_is([(TABLE, TABLE), ("a", (TABLE,)), (TABLE, ())])
 
 
 class IsList(unittest.TestCase):
     def test_each_order_of_letters(self):
         for columns in ("a", "bz", "abc", "aceg", "abcdef"):
-            for one in all_lists(columns):
+            for one in lists_of(columns):
                 self.assertIs(is_list(columns, one), True)
 
     def test_columns_of_eight_letters(self):
         columns = "abcdefgh"
-        for one in all_lists("abh") + list(itertools.islice(itertools.permutations(columns), 0, 40320, 997)):
+        for one in lists_of("abh") + list(itertools.islice(itertools.permutations(columns), 0, 40320, 997)):
             self.assertIs(is_list(columns, "".join(one)), True)
         for one in ("hgfedcbah", "i", "abcdefghi", "aa", "hh", "", "H", "abcdefgg"):
             self.assertIs(is_list(columns, one), False)
@@ -139,7 +134,7 @@ class SortedBy(unittest.TestCase):
             self.assertEqual(sorted_by(("ab", ((4, 4),) * 60), one), list(range(60)))
 
     def test_without_rows(self):
-        for one in all_lists("abc"):
+        for one in lists_of("abc"):
             self.assertEqual(sorted_by(("abc", ()), one), [])
 
     def test_one_row(self):
@@ -147,7 +142,7 @@ class SortedBy(unittest.TestCase):
 
     def test_each_list_sorts_as_told(self):
         rows = tuple(tuple((number * factor) // 3 % 4 for factor in (7, 5, 11, 2)) for number in range(30))
-        for one in all_lists("bdef"):
+        for one in lists_of("bdef"):
             told = sorted_by(("bdef", rows), one)
             self.assertEqual(sorted(told), list(range(30)))
             for first, second in zip(told, told[1:]):

@@ -1,4 +1,14 @@
-"""Things of any kind, for the tests of what is told "of anything"."""
+"""Things that several tests need: some of any kind, and all lists of columns."""
+
+import itertools
+
+
+def lists_of(columns):
+    """All lists of these columns."""
+    found = []
+    for many in range(1, len(columns) + 1):
+        found.extend("".join(letters) for letters in itertools.permutations(columns, many))
+    return found
 
 
 def nested(kind, depth, inner):
