@@ -52,6 +52,16 @@ def is_list(columns, thing):
     return len(set(thing)) == len(thing) and all(letter in columns for letter in thing)
 
 
+def lists_of(columns):
+    """All lists of these columns, those of fewer letters first."""
+    found = []
+    longest = [""]
+    for many in range(len(columns)):
+        longest = [one + letter for one in longest for letter in columns if letter not in one]
+        found.extend(longest)
+    return found
+
+
 def picked(columns, row, letters):
     """What the row has in the columns of these letters, in the order of the letters."""
     return tuple(row[columns.index(letter)] for letter in letters)

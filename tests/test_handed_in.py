@@ -4,13 +4,19 @@ import copy
 import inspect
 import unittest
 
+from stretchkeep.cheapest import cheapest, shows
+from stretchkeep.fewest import fewest, is_need, serves_need
+from stretchkeep.prices import cut, price, price_by, price_of, room
 from stretchkeep.questions import answer, is_question
+from stretchkeep.stairs import by_and_by, stairs
 from stretchkeep.stretches import read, serves, stretch, used
 from stretchkeep.tables import is_list, is_table, sorted_by
 from tests.things import anything
 
 TABLE = ("abc", ((3, 1, 2), (1, 2, 2), (3, 0, 2), (1, 2, 2), (1, 1, 9)))
 QUESTION = ((("a", 1),), ("b", 2, 9))
+WORK = (TABLE, ((QUESTION, 3), (((("c", 9),), None), 1)), 1)
+OTHERS = {"table": ("abc", ((0, 0, 0),)), "work": (("abc", ((0, 0, 0),)), ((((), None), 2),), 5)}
 
 # Each function with its arguments by their names in the interface, and what it tells.
 CALLS = (
@@ -23,6 +29,20 @@ CALLS = (
     (stretch, {"table": TABLE, "one": "ab", "question": QUESTION}, (1, 3)),
     (read, {"table": TABLE, "one": "ab", "question": QUESTION}, ([1, 3], 2)),
     (serves, {"one": "ab", "question": QUESTION}, True),
+    (price_by, {"table": TABLE, "one": "ab", "question": QUESTION}, 3),
+    (price_by, {"table": TABLE, "one": None, "question": QUESTION}, 5),
+    (price_of, {"table": TABLE, "choice": ("a", "b"), "question": QUESTION}, 3),
+    (price, {"work": WORK, "choice": ("a", "ab")}, 19),
+    (room, {"choice": ("a", "ab")}, 3),
+    (cut, {"work": WORK, "choice": ("abc", "ba", "cb")}, ("ab", "b", "c")),
+    (cheapest, {"work": WORK, "room": 0}, (20, (), ("dear",))),
+    (shows, {"work": WORK, "room": 0, "number": 20, "thing": ("dear",)}, True),
+    (shows, {"work": WORK, "room": 0, "number": 20, "thing": ["dear"]}, False),
+    (stairs, {"work": WORK, "room": 6}, [(0, 20), (1, 16), (2, 15)]),
+    (by_and_by, {"work": WORK, "many": 4}, (("b", "c"), 9)),
+    (is_need, {"columns": "abc", "thing": ("ac", "b")}, True),
+    (serves_need, {"one": "cab", "need": ("ac", "b")}, True),
+    (fewest, {"columns": "abc", "needs": [("ac", "b"), ("c", ""), ("", "c")]}, (["cab"], (0,))),
 )
 
 
@@ -49,6 +69,9 @@ class HandedIn(unittest.TestCase):
             self.assertIs(is_table(thing), False)
             self.assertIs(is_list("bc", thing), False)
             self.assertIs(is_question("abc", thing), False)
+            self.assertIs(is_need("xyz", thing), False)
+            self.assertIs(shows(WORK, 2, 0, thing), False)
+            self.assertIs(shows(WORK, 2, 0, ("list", "a", ("dear",), thing)), False)
         self.assertEqual(things, before)
 
     def test_nothing_is_kept_of_what_is_handed_in(self):
@@ -59,9 +82,8 @@ class HandedIn(unittest.TestCase):
         self.assertIs(is_table(tuple(thing)), False)
 
     def test_a_call_hangs_on_no_other_call(self):
-        other = ("abc", ((0, 0, 0),))
         for function, named, told in CALLS:
-            function(**{name: other if name == "table" else worth for name, worth in named.items()})
+            function(**{name: OTHERS.get(name, worth) for name, worth in named.items()})
             self.assertEqual(function(**named), told)
 
     def test_told_lists_are_new_ones(self):
@@ -77,9 +99,17 @@ class HandedIn(unittest.TestCase):
             self.assertIs(type(is_table(thing)), bool)
             self.assertIs(type(is_list("abc", thing)), bool)
             self.assertIs(type(is_question("abc", thing)), bool)
+            self.assertIs(type(is_need("abc", thing)), bool)
+            self.assertIs(type(shows(WORK, 2, 0, thing)), bool)
         for one in ("a", "ab", "ba", "c"):
             for question in (QUESTION, ((), None), ((("c", 1),), None), ((), ("b", 1, 2))):
                 self.assertIs(type(serves(one, question)), bool)
+            for need in (("a", ""), ("", "a"), ("ab", "c"), ("b", "a"), ("c", "")):
+                self.assertIs(type(serves_need(one, need)), bool)
+        for number in (-1, 0, 10, 11, 10 ** 59):
+            dear, over = ("dear",), ("over",)
+            for tree in (dear, over, ("list", "a", dear, dear), ("list", "abc", over, dear)):
+                self.assertIs(type(shows(WORK, 2, number, tree)), bool)
 
 
 if __name__ == "__main__":

@@ -7,6 +7,7 @@ from stretchkeep.questions import answer
 from stretchkeep.stretches import read, serves, stretch, used
 from stretchkeep.tables import sorted_by
 from tests.things import lists_of
+from tests.told import used_as_told
 
 #        sorted by "ab": 4 (1,1) 1 (1,2) 3 (1,2) 2 (3,0) 0 (3,1) 5 (7,4)
 TABLE = ("abc", ((3, 1, 2), (1, 2, 2), (3, 0, 2), (1, 2, 2), (1, 1, 9), (7, 4, 0)))
@@ -32,17 +33,6 @@ def questions_of(columns):
             if pick is None:
                 found.extend((equals, (letter, low, high)) for low, high in reaches)
     return found
-
-
-def used_as_told(one, question):
-    """What [7] says is used, letter by letter."""
-    equals, reach = question
-    letters = [letter for letter, number in equals]
-    told = "".join(itertools.takewhile(lambda letter: letter in letters, one))
-    rest = one[len(told):]
-    if reach is not None and rest != "" and rest[0] == reach[0]:
-        return told + rest[0]
-    return told
 
 
 def stretch_as_told(table, one, question):
