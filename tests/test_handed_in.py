@@ -5,12 +5,17 @@ import inspect
 import unittest
 
 from stretchkeep.cheapest import cheapest, shows
+from stretchkeep.chosen import Chosen
+from stretchkeep.desk import Desk
+from stretchkeep.errors import ListError, NoText
 from stretchkeep.fewest import fewest, is_need, serves_need
+from stretchkeep.kept import Kept
 from stretchkeep.prices import cut, price, price_by, price_of, room
 from stretchkeep.questions import answer, is_question
 from stretchkeep.stairs import by_and_by, stairs
 from stretchkeep.stretches import read, serves, stretch, used
 from stretchkeep.tables import is_list, is_table, sorted_by
+from stretchkeep.texts import question_text, read_question
 from tests.things import anything
 
 TABLE = ("abc", ((3, 1, 2), (1, 2, 2), (3, 0, 2), (1, 2, 2), (1, 1, 9)))
@@ -43,6 +48,34 @@ CALLS = (
     (is_need, {"columns": "abc", "thing": ("ac", "b")}, True),
     (serves_need, {"one": "cab", "need": ("ac", "b")}, True),
     (fewest, {"columns": "abc", "needs": [("ac", "b"), ("c", ""), ("", "c")]}, (["cab"], (0,))),
+    (question_text, {"question": QUESTION}, "a=1 b:2..9"),
+    (read_question, {"columns": "abc", "text": "a=1 b:2..9"}, QUESTION),
+)
+
+# Each class with its arguments by their names, then its methods, one behind the other, with theirs and what they tell.
+OBJECTS = (
+    (Kept, {"table": TABLE, "choice": ("ab", "c")}, (
+        ("put", {"row": (1, 2, 0)}, 5),
+        ("take", {"number": 1}, None),
+        ("sorted_by", {"one": "ab"}, [4, 3, 5, 2, 0]),
+        ("next_number", {}, 6),
+        ("ask", {"question": QUESTION}, ([3, 5], "ab", 2)),
+        ("moved", {}, 4),
+    )),
+    (Chosen, {"table": TABLE, "changes": 1, "room": 2}, (
+        ("ask", {"question": QUESTION, "often": 3}, None),
+        ("asks", {}, ((QUESTION, 3),)),
+        ("choice", {}, ("b",)),
+        ("price", {}, 11),
+        ("made", {}, 1),
+        ("leave", {"question": QUESTION}, None),
+        ("choice", {}, ()),
+    )),
+    (Desk, {}, (
+        ("say", {"row": "table ab"}, "ok"),
+        ("say", {"row": "row 4 2"}, "0"),
+    )),
+    (NoText, {"number": 7}, ()),
 )
 
 
@@ -62,6 +95,35 @@ class HandedIn(unittest.TestCase):
                 self.assertEqual(named, before)
                 self.assertEqual(function(**named), told)
 
+    def test_objects_by_name_and_by_place(self):
+        for kind, named, calls in OBJECTS:
+            self.assertEqual(list(inspect.signature(kind).parameters), list(named))
+            one, other = kind(**named), kind(*named.values())
+            for method, arguments, told in calls:
+                with self.subTest(kind=kind.__name__, method=method):
+                    self.assertEqual(list(inspect.signature(getattr(one, method)).parameters), list(arguments))
+                    self.assertEqual(getattr(one, method)(**arguments), told)
+                    self.assertEqual(getattr(other, method)(*arguments.values()), told)
+        self.assertEqual(NoText(number=7).number, 7)
+
+    def test_objects_change_nothing_that_is_handed_in(self):
+        for kind, named, calls in OBJECTS:
+            before = copy.deepcopy((named, calls))
+            thing = kind(**named)
+            for method, arguments, told in calls:
+                getattr(thing, method)(**arguments)
+            self.assertEqual((named, calls), before)
+
+    def test_refused_calls_change_nothing_that_is_handed_in(self):
+        question = ((("c", 5),), None)
+        chosen = Chosen(TABLE, 1, 2)
+        with self.assertRaises(ListError):
+            chosen.leave(question)
+        with self.assertRaises(ListError):
+            Kept(("a", ((1,),) * 60), ("a",)).put((1,))
+        self.assertEqual(question, ((("c", 5),), None))
+        self.assertEqual(chosen.asks(), ())
+
     def test_lists_handed_in_are_unchanged(self):
         things = anything() + [["abc", [[1, 2, 3]]], ["c", "a", "b"], ([["a", 1]], ["b", 1, 2]), ("a", [[1], [0]])]
         before = copy.deepcopy(things)
@@ -80,6 +142,12 @@ class HandedIn(unittest.TestCase):
         self.assertIs(is_table(tuple(thing)), True)
         thing.append(())
         self.assertIs(is_table(tuple(thing)), False)
+        needs = [("ac", "b"), ("c", "")]
+        told = fewest("abc", needs)
+        needs.append(("b", ""))
+        self.assertEqual(needs, [("ac", "b"), ("c", ""), ("b", "")])
+        self.assertEqual(told, (["cab"], told[1]))
+        self.assertEqual(len(fewest("abc", needs)[0]), 2)
 
     def test_a_call_hangs_on_no_other_call(self):
         for function, named, told in CALLS:

@@ -12,6 +12,10 @@ WORDS = ("type typing typing_extensions enum Enum IntEnum StrEnum Flag IntFlag G
 BUILTINS = ("len range enumerate zip min max sum abs sorted reversed int str bool list tuple dict set isinstance ord "
             "repr any all divmod iter next super ValueError KeyError").split()
 
+METHODS = ("append clear copy count endswith extend find get index insert isalnum isalpha isdigit islower isspace isupper "
+           "items join keys ljust lower lstrip partition pop remove replace reverse rfind rjust rpartition rsplit rstrip "
+           "setdefault split splitlines startswith strip update upper values zfill bit_length").split()
+
 
 def files():
     names = sorted(name for name in os.listdir(PACKAGE) if name != "__pycache__")
@@ -60,6 +64,7 @@ class Language(unittest.TestCase):
             bound = [node.name for node in nodes if isinstance(node, (ast.FunctionDef, ast.ClassDef))]
             bound += [node.id for node in names if not isinstance(node.ctx, ast.Load)]
             bound += [node.arg for node in nodes if isinstance(node, ast.arg)]
+            bound += [node.name for node in nodes if isinstance(node, (ast.MatchAs, ast.MatchStar)) and node.name]
             for one in bound:
                 self.assertFalse(one.startswith("_") and one != "__init__", (name, one))
                 self.assertNotIn(one, dir(builtins), name)
@@ -67,6 +72,42 @@ class Language(unittest.TestCase):
             known = bound + [alias.name for node in imports for alias in node.names] + BUILTINS
             for node in names:
                 self.assertIn(node.id, known, name)
+
+    def test_no_variable_has_the_name_of_a_class_or_an_import(self):
+        for name, text in files().items():
+            nodes = list(ast.walk(ast.parse(text)))
+            taken = [alias.name for node in nodes if isinstance(node, ast.ImportFrom) for alias in node.names]
+            taken += [node.name for node in nodes if isinstance(node, ast.ClassDef)]
+            bound = [node.id for node in nodes if isinstance(node, ast.Name) and not isinstance(node.ctx, ast.Load)]
+            bound += [node.arg for node in nodes if isinstance(node, ast.arg)]
+            bound += [node.name for node in nodes if isinstance(node, (ast.MatchAs, ast.MatchStar))]
+            self.assertEqual(sorted(set(taken) & set(bound)), [], name)
+
+    def test_methods_and_attributes(self):
+        nodes = [node for text in files().values() for node in ast.walk(ast.parse(text))]
+        methods = {part.name for node in nodes if isinstance(node, ast.ClassDef)
+                   for part in node.body if isinstance(part, ast.FunctionDef)}
+        dotted = [node for node in nodes if isinstance(node, ast.Attribute)]
+        stored = {node.attr for node in dotted if not isinstance(node.ctx, ast.Load)}
+        self.assertEqual(sorted(methods & stored), [])
+        for node in dotted:
+            self.assertIn(node.attr, sorted(methods | stored) + METHODS)
+        # Sets, numbers and texts have these, so a method of such a name might be taken for theirs.
+        for one in sorted(methods - {"__init__"}):
+            for kind in (str, int, list, dict, set, bytes):
+                self.assertFalse(hasattr(kind, one), one)
+
+    def test_no_two_files_import_from_each_other(self):
+        near = {}
+        for name, text in files().items():
+            imports = [node for node in ast.walk(ast.parse(text)) if isinstance(node, ast.ImportFrom)]
+            near[name] = {node.module.split(".")[1] + ".py" for node in imports}
+        left = dict(near)
+        while left:
+            free = [name for name in left if not any(other in left for other in near[name])]
+            self.assertNotEqual(free, [], sorted(left))
+            for name in free:
+                del left[name]
 
 
 if __name__ == "__main__":
